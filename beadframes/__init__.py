@@ -1,0 +1,1 @@
+"""An abacus of beads on rods: what its frames show."""

@@ -1,0 +1,106 @@
+"""Makes of frames: their rods and decks, their fault, their span."""
+
+NUMBERS_A_ROD = 7
+MOST_RODS = 64
+LEAST_RATIO = 2
+MOST_RATIO = 20
+MOST_BEADS = 15
+MOST_WORTH = 63
+MOST_WORTH_TOGETHER = 255
+
+
+def rods_of(make):
+    """Give back the make's rods, rod 0 first, each a list of its seven numbers."""
+    return [make[start:start + NUMBERS_A_ROD] for start in range(0, len(make), NUMBERS_A_ROD)]
+
+
+def decks_of(rod):
+    """Give back the rod's three decks, deck 0 first, each as beads and worth."""
+    return [(rod[1], rod[2]), (rod[3], rod[4]), (rod[5], rod[6])]
+
+
+def worth_together(rod):
+    """Give back what all beads of the rod are worth."""
+    total = 0
+    for beads, worth in decks_of(rod):
+        total = total + beads * worth
+    return total
+
+
+def has_whole_rods(make):
+    """Tell whether the list has seven numbers a rod, of 1 to 64 rods."""
+    if len(make) == 0 or len(make) > NUMBERS_A_ROD * MOST_RODS:
+        return False
+    return len(make) % NUMBERS_A_ROD == 0
+
+
+def deck_is_sound(beads, worth):
+    """Tell whether beads and worth are both 0, or both there and within their bounds."""
+    if beads == 0 or worth == 0:
+        return beads == worth
+    return beads <= MOST_BEADS and worth <= MOST_WORTH
+
+
+def decks_are_in_turn(rod):
+    """Tell whether deck 0 has beads, and deck 1 too if deck 2 has any."""
+    decks = decks_of(rod)
+    if decks[0][0] == 0:
+        return False
+    return decks[1][0] > 0 or decks[2][0] == 0
+
+
+def numbers_are_sound(rod):
+    """Tell whether each number of the rod is one that a make may have there."""
+    if rod[0] < LEAST_RATIO or rod[0] > MOST_RATIO:
+        return False
+    for beads, worth in decks_of(rod):
+        if not deck_is_sound(beads, worth):
+            return False
+    return decks_are_in_turn(rod)
+
+
+def pushable_counts(rod):
+    """Give back a whole number whose bit n is set just if n can be pushed on the rod."""
+    counts = 1
+    for beads, worth in decks_of(rod):
+        for bead in range(beads):
+            # A bead is left or pushed: what was reached stays, and is reached that much higher.
+            counts = counts | (counts << worth)
+    return counts
+
+
+def each_digit_can_be_pushed(rod):
+    """Tell whether every number below the rod's ratio can be pushed on it."""
+    digits_below_ratio = (1 << rod[0]) - 1
+    return (pushable_counts(rod) & digits_below_ratio) == digits_below_ratio
+
+
+def broken_rule(rod):
+    """Give back the first of the rules 2, 3, 4 that the rod breaks, or 0."""
+    # The later rules count beads, which only rule 2 keeps few.
+    if not numbers_are_sound(rod):
+        return 2
+    if worth_together(rod) > MOST_WORTH_TOGETHER:
+        return 3
+    if not each_digit_can_be_pushed(rod):
+        return 4
+    return 0
+
+
+def make_fault(make):
+    """Give back rule and place of the make's fault, or an empty list if it has none."""
+    if not has_whole_rods(make):
+        return [1, 0]
+    for place, rod in enumerate(rods_of(make)):
+        rule = broken_rule(rod)
+        if rule > 0:
+            return [rule, place]
+    return []
+
+
+def product_of_ratios(make):
+    """Give back the product of the ratios of all rods."""
+    product = 1
+    for rod in rods_of(make):
+        product = product * rod[0]
+    return product
