@@ -1,24 +1,65 @@
 """The calls: each answers a list, the answer's or the refusal's number first."""
 
-from beadframes.makes import make_fault, product_of_ratios
+from beadframes.makes import digits_of, make_fault, product_of_ratios, standing_fault, value_of
 
 
 def refused_for(fault):
-    """Give back the refusal of a faulty list: its number, then the fault's rule and place."""
+    """Give back the refusal for a fault, its rule and place behind it, or an empty list if there's no fault."""
+    if len(fault) == 0:
+        return []
     return [-5] + fault
 
 
+def make_refusal(make):
+    """Give back the refusal of the list as a make, or an empty list."""
+    return refused_for(make_fault(make))
+
+
+def standing_refusal(make, standing):
+    """Give back the refusal of the make, else that of the standing on it, or an empty list."""
+    refusal = make_refusal(make)
+    if len(refusal) > 0:
+        return refusal
+    return refused_for(standing_fault(make, standing))
+
+
+def value_refusal(value, make):
+    """Give back the refusal of the make, else that of a value not below its span, or an empty list."""
+    refusal = make_refusal(make)
+    if len(refusal) > 0:
+        return refusal
+    if value >= product_of_ratios(make):
+        return [-4]
+    return []
+
+
 def judge(make):
-    """Answer 0 if the list is a make, else the refusal with its fault."""
-    fault = make_fault(make)
-    if len(fault) > 0:
-        return refused_for(fault)
+    """Answer 0 if the list is a make, else the refusal."""
+    refusal = make_refusal(make)
+    if len(refusal) > 0:
+        return refusal
     return [0]
 
 
 def span(make):
-    """Answer 0 and the make's span, or the refusal with its fault."""
-    fault = make_fault(make)
-    if len(fault) > 0:
-        return refused_for(fault)
+    """Answer 0 and the make's span, or the refusal."""
+    refusal = make_refusal(make)
+    if len(refusal) > 0:
+        return refusal
     return [0, product_of_ratios(make)]
+
+
+def value(make, standing):
+    """Answer 0 and the value of the standing, or the refusal."""
+    refusal = standing_refusal(make, standing)
+    if len(refusal) > 0:
+        return refusal
+    return [0, value_of(make, standing)]
+
+
+def digits(value, make):
+    """Answer 0 and the value's digits, one a rod, rod 0's first, or the refusal."""
+    refusal = value_refusal(value, make)
+    if len(refusal) > 0:
+        return refusal
+    return [0] + digits_of(value, make)

@@ -1,6 +1,7 @@
-"""Makes of frames: their rods and decks, their fault, their span."""
+"""Makes of frames and standings on them: their faults, spans, values and digits."""
 
 NUMBERS_A_ROD = 7
+DECKS_A_ROD = 3
 MOST_RODS = 64
 LEAST_RATIO = 2
 MOST_RATIO = 20
@@ -104,3 +105,56 @@ def product_of_ratios(make):
     for rod in rods_of(make):
         product = product * rod[0]
     return product
+
+
+def beads_of(make):
+    """Give back how many beads each deck of the make has, three numbers a rod, rod 0 first."""
+    numbers = []
+    for rod in rods_of(make):
+        for beads, worth in decks_of(rod):
+            numbers.append(beads)
+    return numbers
+
+
+def standing_fault(make, standing):
+    """Give back rule and place of the standing's fault on a sound make, or an empty list."""
+    most = beads_of(make)
+    if len(standing) != len(most):
+        return [5, len(standing)]
+    for place, pushed in enumerate(standing):
+        if pushed > most[place]:
+            return [5, place]
+    return []
+
+
+def pushes_of(standing):
+    """Give back what is pushed on each rod, rod 0 first, a list of three numbers a rod."""
+    return [standing[start:start + DECKS_A_ROD] for start in range(0, len(standing), DECKS_A_ROD)]
+
+
+def count_of(rod, push):
+    """Give back what the pushed beads of the rod are worth together."""
+    count = 0
+    for pushed, deck in zip(push, decks_of(rod)):
+        count = count + pushed * deck[1]
+    return count
+
+
+def value_of(make, standing):
+    """Give back the value of a sound standing: each rod's count times its place, together."""
+    total = 0
+    place = 1
+    for rod, push in zip(rods_of(make), pushes_of(standing)):
+        total = total + count_of(rod, push) * place
+        place = place * rod[0]
+    return total
+
+
+def digits_of(value, make):
+    """Give back the digits of a value below the make's span, rod 0's first."""
+    digits = []
+    left = value
+    for rod in rods_of(make):
+        digits.append(left % rod[0])
+        left = left // rod[0]
+    return digits

@@ -1,0 +1,119 @@
+"""What several tests need: rods, makes, guarded lists, and the document's words by plain trial."""
+
+import itertools
+import math
+import random
+
+FIVE_ONE = [10, 4, 1, 1, 5, 0, 0]
+FIVE_TWO = [10, 5, 1, 2, 5, 0, 0]
+TEN_IN_A_ROW = [10, 10, 1, 0, 0, 0, 0]
+QUARTERS = [4, 3, 1, 0, 0, 0, 0]
+THREE_DECKS = [20, 4, 1, 1, 5, 1, 10]
+TWO = [2, 1, 1, 0, 0, 0, 0]
+GOOD_RODS = (FIVE_ONE, FIVE_TWO, TEN_IN_A_ROW, QUARTERS, THREE_DECKS)
+
+BREAKS_2 = [21, 20, 1, 0, 0, 0, 0]
+BREAKS_3 = [4, 4, 1, 4, 63, 0, 0]
+BREAKS_4 = [10, 3, 1, 1, 5, 0, 0]
+
+LARGEST = 4294967295
+HUNDRED_FIGURES = 10 ** 100 - 1
+
+# A list that is no make, and what its refusal is.
+NO_MAKES = (
+    ([], [-5, 1, 0]),
+    (QUARTERS[:6], [-5, 1, 0]),
+    (QUARTERS * 65, [-5, 1, 0]),
+    ([LARGEST] * 700, [-5, 1, 0]),
+    (BREAKS_2, [-5, 2, 0]),
+    (BREAKS_3, [-5, 3, 0]),
+    (BREAKS_4, [-5, 4, 0]),
+    (QUARTERS + BREAKS_2, [-5, 2, 1]),
+    (QUARTERS * 63 + BREAKS_4, [-5, 4, 63]),
+    ([LARGEST] * 448, [-5, 2, 0]),
+)
+
+
+class GuardedList(list):
+    """A list that refuses every change."""
+
+    def refuse(self, *args, **kwargs):
+        raise AssertionError("the list handed in is changed")
+
+    append = extend = insert = pop = remove = clear = refuse
+    reverse = sort = refuse
+    __setitem__ = __delitem__ = __iadd__ = __imul__ = refuse
+
+
+def rods(make):
+    return [make[start:start + 7] for start in range(0, len(make), 7)]
+
+
+def beads(make):
+    """How many beads each deck has: the standing with all of them pushed."""
+    return [number for rod in rods(make) for number in (rod[1], rod[3], rod[5])]
+
+
+def places(make):
+    """Each rod's place: the product of the ratios to the right of it."""
+    ratios = make[::7]
+    return [math.prod(ratios[:rod]) for rod in range(len(ratios))]
+
+
+def pushes(rod):
+    """All ways to push the rod's beads."""
+    return list(itertools.product(range(rod[1] + 1), range(rod[3] + 1), range(rod[5] + 1)))
+
+
+def count(rod, push):
+    return push[0] * rod[2] + push[1] * rod[4] + push[2] * rod[6]
+
+
+def counts(make, standing):
+    return [count(rod, standing[3 * place:3 * place + 3]) for place, rod in enumerate(rods(make))]
+
+
+def standings(make):
+    """All standings on a make."""
+    for several in itertools.product(*[pushes(rod) for rod in rods(make)]):
+        yield [number for push in several for number in push]
+
+
+def value_by_words(make, standing):
+    return sum(number * place for number, place in zip(counts(make, standing), places(make)))
+
+
+def rod_rule(rod):
+    """The first rule that a rod breaks, told by pushing its beads in every way, or 0."""
+    ratio = rod[0]
+    decks = [(rod[1], rod[2]), (rod[3], rod[4]), (rod[5], rod[6])]
+    rule_2 = (
+        decks[0][0] == 0
+        or (decks[2][0] > 0 and decks[1][0] == 0)
+        or any((number > 0) != (worth > 0) for number, worth in decks)
+        or ratio not in range(2, 21)
+        or any(number > 15 or worth > 63 for number, worth in decks)
+    )
+    if rule_2:
+        return 2
+    if sum(number * worth for number, worth in decks) > 255:
+        return 3
+    if not set(range(ratio)) <= {count(rod, push) for push in pushes(rod)}:
+        return 4
+    return 0
+
+
+def some_rods(how_many, seed, most_beads=15, most_worth=63, most_ratio=20):
+    """Sound rods of one, two and three decks, the same ones each time."""
+    chance = random.Random(seed)
+    found = []
+    while len(found) < how_many:
+        rod = [chance.randint(2, most_ratio)]
+        decks = chance.randint(1, 3)
+        for deck in range(3):
+            # Low worths are likelier, so that the digits can be pushed.
+            worth = chance.choice((1, 1, 2, 3, 5, chance.randint(1, most_worth)))
+            rod += [chance.randint(1, most_beads), worth] if deck < decks else [0, 0]
+        if rod_rule(rod) == 0:
+            found.append(rod)
+    return found
