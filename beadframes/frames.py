@@ -1,6 +1,8 @@
 """The calls: each answers a list, the answer's or the refusal's number first."""
 
-from beadframes.makes import digits_of, make_fault, product_of_ratios, standing_fault, value_of
+from beadframes.makes import (
+    digits_of, is_in_form, make_fault, product_of_ratios, standing_fault, standing_in_form, value_of,
+)
 
 
 def refused_for(fault):
@@ -63,3 +65,21 @@ def digits(value, make):
     if len(refusal) > 0:
         return refusal
     return [0] + digits_of(value, make)
+
+
+def show(value, make):
+    """Answer 0 and the value's standing in form, three numbers a rod, rod 0's first, or the refusal."""
+    refusal = value_refusal(value, make)
+    if len(refusal) > 0:
+        return refusal
+    return [0] + standing_in_form(value, make)
+
+
+def formed(make, standing):
+    """Answer 1 if the standing is in form, 0 if not, or the refusal."""
+    refusal = standing_refusal(make, standing)
+    if len(refusal) > 0:
+        return refusal
+    if is_in_form(make, standing):
+        return [1]
+    return [0]

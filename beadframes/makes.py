@@ -1,4 +1,4 @@
-"""Makes of frames and standings on them: their faults, spans, values and digits."""
+"""Makes of frames and standings on them: their faults, spans, values, digits and forms."""
 
 NUMBERS_A_ROD = 7
 DECKS_A_ROD = 3
@@ -158,3 +158,42 @@ def digits_of(value, make):
         digits.append(left % rod[0])
         left = left // rod[0]
     return digits
+
+
+def most_pushed(deck, count):
+    """Give back how many beads of the deck can be pushed at most without going above the count."""
+    if deck[0] == 0:
+        return 0
+    return min(deck[0], count // deck[1])
+
+
+def form_of(rod, digit):
+    """Give back the digit's form on the rod: how many beads are pushed of each deck."""
+    decks = decks_of(rod)
+    form = []
+    # The most of deck 0 is tried first, then of deck 1: of ways with as many beads the first one stays.
+    for first in range(most_pushed(decks[0], digit), -1, -1):
+        after_first = digit - first * decks[0][1]
+        for second in range(most_pushed(decks[1], after_first), -1, -1):
+            third = most_pushed(decks[2], after_first - second * decks[1][1])
+            push = [first, second, third]
+            if count_of(rod, push) == digit and (len(form) == 0 or sum(push) < sum(form)):
+                form = push
+    return form
+
+
+def standing_in_form(value, make):
+    """Give back the standing in form of a value below the make's span."""
+    standing = []
+    for rod, digit in zip(rods_of(make), digits_of(value, make)):
+        standing.extend(form_of(rod, digit))
+    return standing
+
+
+def is_in_form(make, standing):
+    """Tell whether each rod of a sound standing shows a digit, pushed in its form."""
+    for rod, push in zip(rods_of(make), pushes_of(standing)):
+        count = count_of(rod, push)
+        if count >= rod[0] or push != form_of(rod, count):
+            return False
+    return True

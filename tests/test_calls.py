@@ -32,6 +32,8 @@ CALLS = (
     ("span", ["make"], ONE_MAKE),
     ("value", ["make", "standing"], MAKE_AND_STANDING),
     ("digits", ["value", "make"], VALUE_AND_MAKE),
+    ("show", ["value", "make"], VALUE_AND_MAKE),
+    ("formed", ["make", "standing"], MAKE_AND_STANDING),
 )
 
 
@@ -91,12 +93,17 @@ class HowTheCallsStand(unittest.TestCase):
         self.assertEqual(frames.span(make), [0, 4])
         self.assertEqual(frames.value(make, standing), [0, 3])
         self.assertEqual(frames.digits(3, make), [0, 3])
+        self.assertEqual(frames.show(3, make), [0, 3, 0, 0])
+        self.assertEqual(frames.formed(make, standing), [1])
         make.extend(FIVE_ONE)
         self.assertEqual(frames.span(make), [0, 40])
         self.assertEqual(frames.value(make, standing), [-5, 5, 3])
         self.assertEqual(frames.digits(3, make), [0, 3, 0])
+        self.assertEqual(frames.show(3, make), [0, 3, 0, 0, 0, 0, 0])
+        self.assertEqual(frames.formed(make, standing), [-5, 5, 3])
         standing.extend([1, 1, 0])
         self.assertEqual(frames.value(make, standing), [0, 27])
+        self.assertEqual(frames.formed(make, standing), [1])
         make[0] = 1
         self.assertEqual(frames.judge(make), [-5, 2, 0])
         make.pop()
