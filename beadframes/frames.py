@@ -1,7 +1,8 @@
 """The calls: each answers a list, the answer's or the refusal's number first."""
 
 from beadframes.makes import (
-    digits_of, is_in_form, make_fault, product_of_ratios, standing_fault, standing_in_form, value_of,
+    count_of_standings, digits_of, is_in_form, make_fault, numbered_standing, product_of_ratios, standing_fault,
+    standing_in_form, value_of,
 )
 
 
@@ -83,3 +84,22 @@ def formed(make, standing):
     if is_in_form(make, standing):
         return [1]
     return [0]
+
+
+def ways(value, make):
+    """Answer 0 and how many standings have the value, or the refusal."""
+    refusal = make_refusal(make)
+    if len(refusal) > 0:
+        return refusal
+    return [0, count_of_standings(value, make)]
+
+
+def nth(value, k, make):
+    """Answer 0 and the value's k-th standing, from 0, three numbers a rod, rod 0's first, or the refusal."""
+    refusal = make_refusal(make)
+    if len(refusal) > 0:
+        return refusal
+    standing = numbered_standing(value, k, make)
+    if len(standing) == 0:
+        return [-2]
+    return [0] + standing

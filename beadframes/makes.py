@@ -1,4 +1,4 @@
-"""Makes of frames and standings on them: their faults, spans, values, digits and forms."""
+"""Makes of frames and standings on them: faults, spans, values, digits, forms, and the standings of a value."""
 
 NUMBERS_A_ROD = 7
 DECKS_A_ROD = 3
@@ -151,7 +151,7 @@ def value_of(make, standing):
 
 
 def digits_of(value, make):
-    """Give back the digits of a value below the make's span, rod 0's first."""
+    """Give back the value's digits, rod 0's first; whole spans in it are left out."""
     digits = []
     left = value
     for rod in rods_of(make):
@@ -197,3 +197,76 @@ def is_in_form(make, standing):
         if count >= rod[0] or push != form_of(rod, count):
             return False
     return True
+
+
+def pushes_in_order(rod):
+    """Give back all ways to push the rod's beads, in the standings' order, each three numbers."""
+    pushes = []
+    for first in range(rod[1] + 1):
+        for second in range(rod[3] + 1):
+            for third in range(rod[5] + 1):
+                pushes.append([first, second, third])
+    return pushes
+
+
+def ways_with_deck(ways, deck):
+    """Give back, from how many ways lead to each count without the deck, how many do with it."""
+    if deck[0] == 0:
+        return ways
+    worth = deck[1]
+    one_too_many = (deck[0] + 1) * worth
+    reached = ways + [0] * (deck[0] * worth)
+    for count in range(worth, len(reached)):
+        reached[count] = reached[count] + reached[count - worth]
+    # So far the deck had beads without end: what takes more of them than there are goes off again.
+    for count in range(len(reached) - 1, one_too_many - 1, -1):
+        reached[count] = reached[count] - reached[count - one_too_many]
+    return reached
+
+
+def carried_ways(value, make):
+    """Give back one list for each rod, rod 0 first, and one behind them for what lies left of all rods.
+
+    Each list is of the rods to the right alone: at n, in how many ways they show what
+    the value has below that rod's place, and n units of that rod besides.
+    """
+    carried = [[1]]
+    for rod, digit in zip(rods_of(make), digits_of(value, make)):
+        ways = carried[-1]
+        for deck in decks_of(rod):
+            ways = ways_with_deck(ways, deck)
+        # A count leaves the value's digit on this rod just if the rest of it is whole units of the next.
+        carried.append(ways[digit::rod[0]])
+    return carried
+
+
+def number_at(numbers, place):
+    """Give back the number at that place of the list, 0 where the list doesn't reach."""
+    if place < 0 or place >= len(numbers):
+        return 0
+    return numbers[place]
+
+
+def count_of_standings(value, make):
+    """Give back how many standings have the value."""
+    return number_at(carried_ways(value, make)[-1], value // product_of_ratios(make))
+
+
+def numbered_standing(value, k, make):
+    """Give back the value's k-th standing, from 0, in their order, or an empty list if there's none such."""
+    carried = carried_ways(value, make)
+    units = value // product_of_ratios(make)
+    if k >= number_at(carried[-1], units):
+        return []
+    left = k
+    standing = []
+    for rod, digit, ways in reversed(list(zip(rods_of(make), digits_of(value, make), carried))):
+        count = digit + units * rod[0]
+        for push in pushes_in_order(rod):
+            units = count - count_of(rod, push)
+            ways_here = number_at(ways, units)
+            if left < ways_here:
+                break
+            left = left - ways_here
+        standing = push + standing
+    return standing

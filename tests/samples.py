@@ -12,9 +12,29 @@ THREE_DECKS = [20, 4, 1, 1, 5, 1, 10]
 TWO = [2, 1, 1, 0, 0, 0, 0]
 GOOD_RODS = (FIVE_ONE, FIVE_TWO, TEN_IN_A_ROW, QUARTERS, THREE_DECKS)
 
+# Decks of equal worth, and decks whose worths go down, up, or neither way.
+EQUAL_TWO = [4, 2, 1, 3, 1, 0, 0]
+EQUAL_THREE = [6, 1, 1, 2, 1, 3, 1]
+EQUAL_LAST = [9, 2, 1, 2, 3, 2, 3]
+EQUAL_OUTER = [10, 2, 3, 4, 1, 2, 3]
+WORTHS_DOWN = [18, 1, 10, 1, 5, 4, 1]
+WORTHS_MIXED = [20, 2, 5, 4, 1, 1, 10]
+# 6 is two of 3, but the largest worth first gives 4 and two of 1; 1, 3, 4 in each order.
+NOT_GREEDY = ([9, 2, 1, 2, 3, 1, 4], [9, 1, 4, 2, 3, 2, 1], [9, 2, 3, 1, 4, 2, 1])
+# 4 is one of 1 and one of 3, or two of 2: as many beads.
+AS_MANY = ([6, 1, 1, 2, 2, 1, 3], [6, 2, 2, 1, 1, 1, 3], [6, 1, 3, 2, 2, 1, 1], [6, 1, 3, 1, 1, 2, 2])
+
+CHOICES = (
+    EQUAL_TWO, EQUAL_THREE, EQUAL_LAST, EQUAL_OUTER, WORTHS_DOWN, WORTHS_MIXED, *NOT_GREEDY, *AS_MANY,
+)
+FULL_RODS = ([20, 15, 1, 15, 1, 15, 1], [20, 15, 1, 15, 16, 0, 0], [20, 15, 2, 15, 3, 15, 1])
+
 BREAKS_2 = [21, 20, 1, 0, 0, 0, 0]
 BREAKS_3 = [4, 4, 1, 4, 63, 0, 0]
 BREAKS_4 = [10, 3, 1, 1, 5, 0, 0]
+
+# Rods whose counts reach far beyond their ratio.
+FAR_BEYOND = ([2, 15, 1, 0, 0, 0, 0], [2, 1, 1, 1, 63, 1, 63], [2, 3, 1, 2, 7, 1, 20], [3, 2, 1, 2, 2, 2, 50])
 
 LARGEST = 4294967295
 HUNDRED_FIGURES = 10 ** 100 - 1
@@ -79,6 +99,19 @@ def standings(make):
         yield [number for push in several for number in push]
 
 
+def in_order(standing):
+    """What standings are sorted by: the leftmost rod first, on each rod deck 0 first."""
+    return [standing[start:start + 3] for start in range(len(standing) - 3, -1, -3)]
+
+
+def standings_by_value(make):
+    """Each value that the make's standings have, and its standings in their order."""
+    found = {}
+    for standing in sorted(standings(make), key=in_order):
+        found.setdefault(value_by_words(make, standing), []).append(standing)
+    return found
+
+
 def value_by_words(make, standing):
     return sum(number * place for number, place in zip(counts(make, standing), places(make)))
 
@@ -117,3 +150,17 @@ def some_rods(how_many, seed, most_beads=15, most_worth=63, most_ratio=20):
         if rod_rule(rod) == 0:
             found.append(rod)
     return found
+
+
+def makes_to_try():
+    """Makes of few enough standings that all of these can be tried: of one rod, of several, of mixed ratios."""
+    makes = [
+        *GOOD_RODS, *CHOICES, *FAR_BEYOND, TWO * 6, QUARTERS * 4, FIVE_TWO * 2, THREE_DECKS * 2, FIVE_ONE + THREE_DECKS,
+        [2, 2, 1, 0, 0, 0, 0] * 6, [2, 1, 1, 1, 1, 1, 1] * 3, [20, 4, 4, 3, 1, 3, 2] + TWO * 3, EQUAL_TWO * 3,
+        EQUAL_THREE + EQUAL_LAST, FAR_BEYOND[0] * 2 + TWO, FAR_BEYOND[1] * 3, FAR_BEYOND[2] + FAR_BEYOND[3],
+        FAR_BEYOND[3] + AS_MANY[2] + TWO, sum(AS_MANY[:3], []), NOT_GREEDY[0] + NOT_GREEDY[1],
+        WORTHS_DOWN + WORTHS_MIXED,
+    ]
+    for seed, size in enumerate((1, 1, 1, 2, 2, 2, 2, 3, 3, 3, 4)):
+        makes.append(sum(some_rods(size, 20 + seed, most_beads=5 - size, most_worth=30), []))
+    return makes

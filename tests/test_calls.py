@@ -25,6 +25,7 @@ ONE_MAKE = [(make,) for make in MAKES + FAULTY_MAKES]
 MAKE_AND_STANDING = [(make, standing) for make in MAKES for standing in standings_on(make)]
 MAKE_AND_STANDING += [(make, standing) for make in FAULTY_MAKES for standing in ([], [0] * 3, [LARGEST] * 300)]
 VALUE_AND_MAKE = [(value, make) for value in VALUES for make in MAKES + FAULTY_MAKES]
+VALUE_K_AND_MAKE = [(value, k, make) for k in (0, 1, HUNDRED_FIGURES) for value, make in VALUE_AND_MAKE]
 
 # Each call's name, its parameters, and what to hand in.
 CALLS = (
@@ -34,6 +35,8 @@ CALLS = (
     ("digits", ["value", "make"], VALUE_AND_MAKE),
     ("show", ["value", "make"], VALUE_AND_MAKE),
     ("formed", ["make", "standing"], MAKE_AND_STANDING),
+    ("ways", ["value", "make"], VALUE_AND_MAKE),
+    ("nth", ["value", "k", "make"], VALUE_K_AND_MAKE),
 )
 
 
@@ -95,12 +98,16 @@ class HowTheCallsStand(unittest.TestCase):
         self.assertEqual(frames.digits(3, make), [0, 3])
         self.assertEqual(frames.show(3, make), [0, 3, 0, 0])
         self.assertEqual(frames.formed(make, standing), [1])
+        self.assertEqual(frames.ways(4, make), [0, 0])
+        self.assertEqual(frames.nth(4, 0, make), [-2])
         make.extend(FIVE_ONE)
         self.assertEqual(frames.span(make), [0, 40])
         self.assertEqual(frames.value(make, standing), [-5, 5, 3])
         self.assertEqual(frames.digits(3, make), [0, 3, 0])
         self.assertEqual(frames.show(3, make), [0, 3, 0, 0, 0, 0, 0])
         self.assertEqual(frames.formed(make, standing), [-5, 5, 3])
+        self.assertEqual(frames.ways(4, make), [0, 1])
+        self.assertEqual(frames.nth(4, 0, make), [0, 0, 0, 0, 1, 0, 0])
         standing.extend([1, 1, 0])
         self.assertEqual(frames.value(make, standing), [0, 27])
         self.assertEqual(frames.formed(make, standing), [1])
@@ -117,7 +124,8 @@ class HowTheCallsStand(unittest.TestCase):
         self.assertEqual(out.getvalue() + err.getvalue(), "")
 
     def test_a_faulty_make_is_refused_whatever_else_is_handed_in(self):
-        others = {"value": (0, 1, HUNDRED_FIGURES), "standing": ([], [0, 0, 0], [LARGEST] * 300)}
+        numbers = (0, 1, HUNDRED_FIGURES)
+        others = {"value": numbers, "k": numbers, "standing": ([], [0, 0, 0], [LARGEST] * 300)}
         for name, parameters, several in CALLS:
             call = getattr(frames, name)
             for make, refusal in NO_MAKES:

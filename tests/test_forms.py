@@ -6,26 +6,11 @@ import unittest
 
 from beadframes.frames import digits, formed, judge, show, span, value
 from tests.samples import (
-    BREAKS_2, BREAKS_3, BREAKS_4, FIVE_ONE, FIVE_TWO, GOOD_RODS, HUNDRED_FIGURES, LARGEST, NO_MAKES, QUARTERS,
-    TEN_IN_A_ROW, THREE_DECKS, TWO, beads, count, pushes, rods, some_rods, standings, value_by_words,
+    AS_MANY, BREAKS_2, BREAKS_3, BREAKS_4, CHOICES, EQUAL_LAST, EQUAL_OUTER, EQUAL_THREE, EQUAL_TWO, FIVE_ONE,
+    FIVE_TWO, FULL_RODS, GOOD_RODS, HUNDRED_FIGURES, LARGEST, NO_MAKES, NOT_GREEDY, QUARTERS, TEN_IN_A_ROW,
+    THREE_DECKS, TWO, WORTHS_DOWN, WORTHS_MIXED, beads, count, pushes, rods, some_rods, standings, value_by_words,
 )
 
-# Decks of equal worth, and decks whose worths go down, up, or neither way.
-EQUAL_TWO = [4, 2, 1, 3, 1, 0, 0]
-EQUAL_THREE = [6, 1, 1, 2, 1, 3, 1]
-EQUAL_LAST = [9, 2, 1, 2, 3, 2, 3]
-EQUAL_OUTER = [10, 2, 3, 4, 1, 2, 3]
-WORTHS_DOWN = [18, 1, 10, 1, 5, 4, 1]
-WORTHS_MIXED = [20, 2, 5, 4, 1, 1, 10]
-# 6 is two of 3, but the largest worth first gives 4 and two of 1; 1, 3, 4 in each order.
-NOT_GREEDY = ([9, 2, 1, 2, 3, 1, 4], [9, 1, 4, 2, 3, 2, 1], [9, 2, 3, 1, 4, 2, 1])
-# 4 is one of 1 and one of 3, or two of 2: as many beads.
-AS_MANY = ([6, 1, 1, 2, 2, 1, 3], [6, 2, 2, 1, 1, 1, 3], [6, 1, 3, 2, 2, 1, 1], [6, 1, 3, 1, 1, 2, 2])
-
-CHOICES = (
-    EQUAL_TWO, EQUAL_THREE, EQUAL_LAST, EQUAL_OUTER, WORTHS_DOWN, WORTHS_MIXED, *NOT_GREEDY, *AS_MANY,
-)
-FULL_RODS = ([20, 15, 1, 15, 1, 15, 1], [20, 15, 1, 15, 16, 0, 0], [20, 15, 2, 15, 3, 15, 1])
 RODS = (*GOOD_RODS, TWO, *CHOICES, *FULL_RODS, *some_rods(150, 3))
 SMALL_MAKES = (
     TWO * 3, QUARTERS, FIVE_TWO, EQUAL_TWO + TWO, QUARTERS + EQUAL_TWO, [3, 2, 1, 1, 2, 1, 1] + [2, 1, 1, 1, 1, 0, 0],
