@@ -1,8 +1,8 @@
 """The calls: each answers a list, the answer's or the refusal's number first."""
 
 from beadframes.makes import (
-    count_of_standings, digits_of, is_in_form, make_fault, numbered_standing, product_of_ratios, standing_fault,
-    standing_in_form, value_of,
+    count_of_standings, digits_of, fewest_standing, is_in_form, make_fault, number_of_standing, numbered_standing,
+    product_of_ratios, standing_fault, standing_in_form, value_of,
 )
 
 
@@ -34,6 +34,13 @@ def value_refusal(value, make):
     if value >= product_of_ratios(make):
         return [-4]
     return []
+
+
+def standing_answer(standing):
+    """Give back the answer with a standing that was looked for; an empty list says that there's none such."""
+    if len(standing) == 0:
+        return [-2]
+    return [0] + standing
 
 
 def judge(make):
@@ -99,7 +106,20 @@ def nth(value, k, make):
     refusal = make_refusal(make)
     if len(refusal) > 0:
         return refusal
-    standing = numbered_standing(value, k, make)
-    if len(standing) == 0:
-        return [-2]
-    return [0] + standing
+    return standing_answer(numbered_standing(value, k, make))
+
+
+def rank(make, standing):
+    """Answer 0 and the standing's number among those of its value, from 0, or the refusal."""
+    refusal = standing_refusal(make, standing)
+    if len(refusal) > 0:
+        return refusal
+    return [0, number_of_standing(make, standing)]
+
+
+def fewest(value, make):
+    """Answer 0 and the value's standing with the fewest beads, the first of these, or the refusal."""
+    refusal = make_refusal(make)
+    if len(refusal) > 0:
+        return refusal
+    return standing_answer(fewest_standing(value, make))

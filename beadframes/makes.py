@@ -8,6 +8,8 @@ MOST_RATIO = 20
 MOST_BEADS = 15
 MOST_WORTH = 63
 MOST_WORTH_TOGETHER = 255
+# One bead more than any make has: so many stand for what can't be shown at all.
+TOO_MANY_BEADS = 2881
 
 
 def rods_of(make):
@@ -224,39 +226,52 @@ def ways_with_deck(ways, deck):
     return reached
 
 
-def carried_ways(value, make):
+def fewest_with_deck(fewest, deck):
+    """Give back, from how few beads lead to each count without the deck, how few do with it."""
+    reached = fewest + [TOO_MANY_BEADS] * (deck[0] * deck[1])
+    for bead in range(deck[0]):
+        # From the highest count down, as what is drawn from must not have this bead yet.
+        for count in range(len(reached) - 1, deck[1] - 1, -1):
+            reached[count] = min(reached[count], reached[count - deck[1]] + 1)
+    return reached
+
+
+def carried_numbers(value, make, nothing, with_deck):
     """Give back one list for each rod, rod 0 first, and one behind them for what lies left of all rods.
 
-    Each list is of the rods to the right alone: at n, in how many ways they show what
-    the value has below that rod's place, and n units of that rod besides.
+    Each list is of the rods to the right alone, which are to show what the value has
+    below that rod's place, and n units of that rod besides: at n, in how many ways they
+    do, or with how few beads. That is `nothing` where there is no rod and n is 0, and
+    `with_deck` tells what a deck makes of it.
     """
-    carried = [[1]]
+    carried = [[nothing]]
     for rod, digit in zip(rods_of(make), digits_of(value, make)):
-        ways = carried[-1]
+        numbers = carried[-1]
         for deck in decks_of(rod):
-            ways = ways_with_deck(ways, deck)
+            numbers = with_deck(numbers, deck)
         # A count leaves the value's digit on this rod just if the rest of it is whole units of the next.
-        carried.append(ways[digit::rod[0]])
+        carried.append(numbers[digit::rod[0]])
     return carried
 
 
-def number_at(numbers, place):
-    """Give back the number at that place of the list, 0 where the list doesn't reach."""
+def number_at(numbers, place, otherwise):
+    """Give back the number at that place of the list, or the other one where the list doesn't reach."""
     if place < 0 or place >= len(numbers):
-        return 0
+        return otherwise
     return numbers[place]
 
 
 def count_of_standings(value, make):
     """Give back how many standings have the value."""
-    return number_at(carried_ways(value, make)[-1], value // product_of_ratios(make))
+    carried = carried_numbers(value, make, 1, ways_with_deck)
+    return number_at(carried[-1], value // product_of_ratios(make), 0)
 
 
 def numbered_standing(value, k, make):
     """Give back the value's k-th standing, from 0, in their order, or an empty list if there's none such."""
-    carried = carried_ways(value, make)
+    carried = carried_numbers(value, make, 1, ways_with_deck)
     units = value // product_of_ratios(make)
-    if k >= number_at(carried[-1], units):
+    if k >= number_at(carried[-1], units, 0):
         return []
     left = k
     standing = []
@@ -264,9 +279,45 @@ def numbered_standing(value, k, make):
         count = digit + units * rod[0]
         for push in pushes_in_order(rod):
             units = count - count_of(rod, push)
-            ways_here = number_at(ways, units)
+            ways_here = number_at(ways, units, 0)
             if left < ways_here:
                 break
             left = left - ways_here
+        standing = push + standing
+    return standing
+
+
+def number_of_standing(make, standing):
+    """Give back how many standings of the same value come before a sound standing in their order."""
+    value = value_of(make, standing)
+    carried = carried_numbers(value, make, 1, ways_with_deck)
+    units = value // product_of_ratios(make)
+    number = 0
+    rows = list(zip(rods_of(make), digits_of(value, make), carried, pushes_of(standing)))
+    for rod, digit, ways, pushed in reversed(rows):
+        count = digit + units * rod[0]
+        for push in pushes_in_order(rod):
+            if push == pushed:
+                break
+            number = number + number_at(ways, count - count_of(rod, push), 0)
+        units = count - count_of(rod, pushed)
+    return number
+
+
+def fewest_standing(value, make):
+    """Give back of the value's standings with the fewest beads the first in order, or an empty list if it has none."""
+    carried = carried_numbers(value, make, 0, fewest_with_deck)
+    units = value // product_of_ratios(make)
+    left = number_at(carried[-1], units, TOO_MANY_BEADS)
+    if left == TOO_MANY_BEADS:
+        return []
+    standing = []
+    for rod, digit, fewest in reversed(list(zip(rods_of(make), digits_of(value, make), carried))):
+        count = digit + units * rod[0]
+        for push in pushes_in_order(rod):
+            units = count - count_of(rod, push)
+            if sum(push) + number_at(fewest, units, TOO_MANY_BEADS) == left:
+                break
+        left = left - sum(push)
         standing = push + standing
     return standing

@@ -3,6 +3,7 @@
 import itertools
 import math
 import random
+import time
 
 FIVE_ONE = [10, 4, 1, 1, 5, 0, 0]
 FIVE_TWO = [10, 5, 1, 2, 5, 0, 0]
@@ -10,6 +11,7 @@ TEN_IN_A_ROW = [10, 10, 1, 0, 0, 0, 0]
 QUARTERS = [4, 3, 1, 0, 0, 0, 0]
 THREE_DECKS = [20, 4, 1, 1, 5, 1, 10]
 TWO = [2, 1, 1, 0, 0, 0, 0]
+TWO_TWOS = [2, 2, 1, 0, 0, 0, 0]
 GOOD_RODS = (FIVE_ONE, FIVE_TWO, TEN_IN_A_ROW, QUARTERS, THREE_DECKS)
 
 # Decks of equal worth, and decks whose worths go down, up, or neither way.
@@ -35,6 +37,18 @@ BREAKS_4 = [10, 3, 1, 1, 5, 0, 0]
 
 # Rods whose counts reach far beyond their ratio.
 FAR_BEYOND = ([2, 15, 1, 0, 0, 0, 0], [2, 1, 1, 1, 63, 1, 63], [2, 3, 1, 2, 7, 1, 20], [3, 2, 1, 2, 2, 2, 50])
+
+# Rods worth 255 together, and one of them can be pushed in 4096 ways.
+FULL = [2, 15, 1, 15, 15, 15, 1]
+FULL_OF_TWO_DECKS = [2, 15, 1, 15, 16, 0, 0]
+# Calls of nth, rank and fewest that are as much work as is allowed, r r p p w in all, or that may come 200 at once:
+# a rod, how many of it (r), in how many ways it can be pushed (p), what it is worth (w).
+MUCH_WORK = (
+    ([2, 1, 1, 5, 50, 0, 0], 64, 12, 251), ([2, 1, 1, 1, 1, 1, 1], 64, 8, 3), ([2, 1, 1, 1, 63, 0, 0], 64, 4, 64),
+    (FULL_OF_TWO_DECKS, 3, 256, 255), ([20, 12, 1, 8, 12, 6, 12], 1, 819, 180), (FULL_OF_TWO_DECKS, 1, 256, 255),
+)
+MOST_WORK = 200_000_000
+MOST_SECONDS = 20
 
 LARGEST = 4294967295
 HUNDRED_FIGURES = 10 ** 100 - 1
@@ -112,8 +126,31 @@ def standings_by_value(make):
     return found
 
 
+def work_allowed(work):
+    """How many calls of so much work one line has at most."""
+    return min(200, MOST_WORK // work)
+
+
+def seconds_taken(calls):
+    """How long it takes to run these calls, each a function and what is handed in."""
+    start = time.monotonic()
+    for call in calls:
+        call[0](*call[1:])
+    return time.monotonic() - start
+
+
 def value_by_words(make, standing):
     return sum(number * place for number, place in zip(counts(make, standing), places(make)))
+
+
+def largest(make):
+    """The largest value that a standing of the make has."""
+    return value_by_words(make, beads(make))
+
+
+def middle(make):
+    """A value of many standings: that with half of each deck pushed."""
+    return value_by_words(make, [number // 2 for number in beads(make)])
 
 
 def rod_rule(rod):
@@ -156,7 +193,7 @@ def makes_to_try():
     """Makes of few enough standings that all of these can be tried: of one rod, of several, of mixed ratios."""
     makes = [
         *GOOD_RODS, *CHOICES, *FAR_BEYOND, TWO * 6, QUARTERS * 4, FIVE_TWO * 2, THREE_DECKS * 2, FIVE_ONE + THREE_DECKS,
-        [2, 2, 1, 0, 0, 0, 0] * 6, [2, 1, 1, 1, 1, 1, 1] * 3, [20, 4, 4, 3, 1, 3, 2] + TWO * 3, EQUAL_TWO * 3,
+        TWO_TWOS * 6, [2, 1, 1, 1, 1, 1, 1] * 3, [20, 4, 4, 3, 1, 3, 2] + TWO * 3, EQUAL_TWO * 3,
         EQUAL_THREE + EQUAL_LAST, FAR_BEYOND[0] * 2 + TWO, FAR_BEYOND[1] * 3, FAR_BEYOND[2] + FAR_BEYOND[3],
         FAR_BEYOND[3] + AS_MANY[2] + TWO, sum(AS_MANY[:3], []), NOT_GREEDY[0] + NOT_GREEDY[1],
         WORTHS_DOWN + WORTHS_MIXED,
@@ -164,3 +201,12 @@ def makes_to_try():
     for seed, size in enumerate((1, 1, 1, 2, 2, 2, 2, 3, 3, 3, 4)):
         makes.append(sum(some_rods(size, 20 + seed, most_beads=5 - size, most_worth=30), []))
     return makes
+
+
+def large_makes():
+    """Makes of many rods, most of 64, on which most values stand in very many ways."""
+    return [
+        FIVE_ONE * 3, FIVE_TWO * 13, TWO * 64, TWO_TWOS * 64, FIVE_TWO * 64, THREE_DECKS * 64,
+        (QUARTERS + FIVE_TWO) * 32, FAR_BEYOND[0] * 64, FAR_BEYOND[1] * 64, EQUAL_THREE * 64, sum(CHOICES, []),
+        *[sum(some_rods(64, seed), []) for seed in (7, 8)],
+    ]

@@ -6,6 +6,7 @@ import io
 import unittest
 
 from beadframes import frames
+from tests.language import INTERFACE
 from tests.samples import (
     FIVE_ONE, FIVE_TWO, GuardedList, HUNDRED_FIGURES, LARGEST, NO_MAKES, QUARTERS, THREE_DECKS, TWO, beads,
 )
@@ -37,6 +38,8 @@ CALLS = (
     ("formed", ["make", "standing"], MAKE_AND_STANDING),
     ("ways", ["value", "make"], VALUE_AND_MAKE),
     ("nth", ["value", "k", "make"], VALUE_K_AND_MAKE),
+    ("rank", ["make", "standing"], MAKE_AND_STANDING),
+    ("fewest", ["value", "make"], VALUE_AND_MAKE),
 )
 
 
@@ -51,6 +54,9 @@ def each_call():
 
 
 class HowTheCallsStand(unittest.TestCase):
+    def test_each_call_of_the_interface_is_looked_at(self):
+        self.assertEqual(sorted(name for name, parameters, several in CALLS), sorted(INTERFACE))
+
     def test_the_interface_names_the_arguments(self):
         for name, parameters, several in CALLS:
             call = getattr(frames, name)
@@ -100,6 +106,8 @@ class HowTheCallsStand(unittest.TestCase):
         self.assertEqual(frames.formed(make, standing), [1])
         self.assertEqual(frames.ways(4, make), [0, 0])
         self.assertEqual(frames.nth(4, 0, make), [-2])
+        self.assertEqual(frames.rank(make, standing), [0, 0])
+        self.assertEqual(frames.fewest(4, make), [-2])
         make.extend(FIVE_ONE)
         self.assertEqual(frames.span(make), [0, 40])
         self.assertEqual(frames.value(make, standing), [-5, 5, 3])
@@ -108,9 +116,12 @@ class HowTheCallsStand(unittest.TestCase):
         self.assertEqual(frames.formed(make, standing), [-5, 5, 3])
         self.assertEqual(frames.ways(4, make), [0, 1])
         self.assertEqual(frames.nth(4, 0, make), [0, 0, 0, 0, 1, 0, 0])
+        self.assertEqual(frames.rank(make, standing), [-5, 5, 3])
+        self.assertEqual(frames.fewest(4, make), [0, 0, 0, 0, 1, 0, 0])
         standing.extend([1, 1, 0])
         self.assertEqual(frames.value(make, standing), [0, 27])
         self.assertEqual(frames.formed(make, standing), [1])
+        self.assertEqual(frames.rank(make, standing), [0, 0])
         make[0] = 1
         self.assertEqual(frames.judge(make), [-5, 2, 0])
         make.pop()

@@ -3,36 +3,18 @@
 import collections
 import itertools
 import math
-import time
 import unittest
 
 from beadframes.frames import judge, nth, span, value, ways
 from tests.samples import (
-    BREAKS_2, BREAKS_3, BREAKS_4, CHOICES, EQUAL_LAST, EQUAL_THREE, EQUAL_TWO, FAR_BEYOND, FIVE_ONE, FIVE_TWO,
-    FULL_RODS, GOOD_RODS, HUNDRED_FIGURES, NO_MAKES, QUARTERS, TEN_IN_A_ROW, THREE_DECKS, TWO, beads, count, in_order,
-    makes_to_try, pushes, rods, some_rods, standings_by_value, value_by_words,
+    BREAKS_2, BREAKS_3, BREAKS_4, EQUAL_LAST, EQUAL_THREE, EQUAL_TWO, FAR_BEYOND, FIVE_ONE, FIVE_TWO, FULL,
+    FULL_OF_TWO_DECKS, HUNDRED_FIGURES, MOST_SECONDS, MUCH_WORK, NO_MAKES, TEN_IN_A_ROW, THREE_DECKS, TWO, TWO_TWOS,
+    beads, count, in_order, large_makes, largest, makes_to_try, middle, pushes, rods, seconds_taken,
+    standings_by_value, work_allowed,
 )
 
-TWO_TWOS = [2, 2, 1, 0, 0, 0, 0]
 SMALL_MAKES = makes_to_try()
-LARGE_MAKES = (
-    FIVE_ONE * 3, FIVE_TWO * 13, TWO * 64, TWO_TWOS * 64, FIVE_TWO * 64, THREE_DECKS * 64, (QUARTERS + FIVE_TWO) * 32,
-    FAR_BEYOND[0] * 64, FAR_BEYOND[1] * 64, EQUAL_THREE * 64, sum(CHOICES, []),
-    *[sum(some_rods(64, seed), []) for seed in (7, 8)],
-)
-# Rods worth 255 together, and one that can be pushed in 4096 ways.
-FULL = [2, 15, 1, 15, 15, 15, 1]
-FULL_OF_TWO_DECKS = [2, 15, 1, 15, 16, 0, 0]
-SECONDS = 20
-
-
-def largest(make):
-    return value_by_words(make, beads(make))
-
-
-def middle(make):
-    """A value of many standings: that with half of each deck pushed."""
-    return value_by_words(make, [number // 2 for number in beads(make)])
+LARGE_MAKES = large_makes()
 
 
 def ways_rod_by_rod(number, make):
@@ -236,32 +218,19 @@ class Nth(unittest.TestCase):
 
 
 class AsMuchWorkAsIsAllowed(unittest.TestCase):
-    """Lines of as many calls as 200,000,000 of work hold: of ways r p w each, of nth r r p p w."""
-
-    def in_seconds(self, calls):
-        start = time.monotonic()
-        for call in calls:
-            self.assertEqual(call[0](*call[1:])[0], 0)
-        self.assertLess(time.monotonic() - start, SECONDS)
-
     def test_ways(self):
         for rod, p, w in ((FULL, 4096, 255), (FULL_OF_TWO_DECKS, 256, 255), ([2, 1, 1, 4, 63, 0, 0], 10, 253)):
             make = rod * 64
             number = middle(make)
-            self.in_seconds([(ways, number + n, make) for n in range(min(200, 200_000_000 // (64 * p * w)))])
+            calls = [(ways, number + more, make) for more in range(work_allowed(64 * p * w))]
+            self.assertLess(seconds_taken(calls), MOST_SECONDS)
 
     def test_nth(self):
-        for rod, size, p, w in (
-            ([2, 1, 1, 5, 50, 0, 0], 64, 12, 251), ([2, 1, 1, 1, 1, 1, 1], 64, 8, 3),
-            ([2, 1, 1, 1, 63, 0, 0], 64, 4, 64), (FULL_OF_TWO_DECKS, 3, 256, 255),
-            ([20, 12, 1, 8, 12, 6, 12], 1, 819, 180), (FULL_OF_TWO_DECKS, 1, 256, 255),
-        ):
-            make = rod * size
-            number = middle(make)
-            last = ways(number, make)[1] - 1
-            how_many = min(200, 200_000_000 // (size * size * p * p * w))
-            self.assertGreater(how_many, 0)
-            self.in_seconds([(nth, number, last - n % (last + 1), make) for n in range(how_many)])
+        for rod, r, p, w in MUCH_WORK:
+            make = rod * r
+            several = ways(middle(make), make)[1]
+            calls = [(nth, middle(make), k % several, make) for k in range(work_allowed(r * r * p * p * w))]
+            self.assertLess(seconds_taken(calls), MOST_SECONDS)
 
 
 if __name__ == "__main__":
